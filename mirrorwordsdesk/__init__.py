@@ -1,0 +1,1 @@
+"""What mirrors make: words of mirrors, and which of them are the same."""
