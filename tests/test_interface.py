@@ -16,6 +16,16 @@ TOLD = ([2, 0, 0] + [5, 0, 3, 1, 0, 2] + [5, 0, 3, 0, 1, 2] + [5, 0, 3, 2, 1, 0]
         + [2, 0, 0] + [1, -2] + [2, 0, 0] + [1, -1] + [5, 0, 3, 1, 0, 1])
 
 
+class Fixed(list):
+    """A list that may be read alone."""
+
+    def refuse(self, *rest, **named):
+        raise AssertionError("what is handed in was changed")
+
+    append = extend = insert = pop = remove = clear = reverse = sort = refuse
+    __setitem__ = __delitem__ = __iadd__ = __imul__ = refuse
+
+
 class Interface(unittest.TestCase):
     def test_the_empty_list(self):
         self.assertEqual(answers([]), [])
@@ -38,6 +48,9 @@ class Interface(unittest.TestCase):
         handed = list(SEVERAL)
         answers(handed)
         self.assertEqual(handed, SEVERAL)
+
+    def test_what_is_handed_in_is_not_changed_for_a_while_either(self):
+        self.assertEqual(answers(Fixed(SEVERAL)), TOLD)
 
     def test_nothing_is_kept_from_one_time_to_the_next(self):
         self.assertEqual(answers(list(SEVERAL)), answers(list(SEVERAL)))
