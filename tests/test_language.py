@@ -1,7 +1,8 @@
 """The package keeps to the part of Python that it is written in, rule by rule (L1 to L28).
 
 Where a rule allows more than the package needs (sets, annotations, most methods with two underscores,
-docstrings below a file's top), what is held here is narrower than the rule.
+docstrings below a file's top), what is held here is narrower than the rule. Not looked at: what an inner def
+assigns of what is around it (L4), and what depends on depth or order when the program runs (L11).
 """
 
 import ast
@@ -122,6 +123,9 @@ class Package:
         names = [file.name for file in self.files]
         if "__init__.py" not in names:
             self.faults.append(("L14", "L14 no __init__.py"))
+        for file in self.files:
+            if file.name == "__init__.py" and {f"{name}.py" for name in file.top_names} & set(names):
+                self.fault("L16", file, None, "a name that a file has")
         for file in self.files:
             stem = file.name[:-3]
             if file.name in ("__init__.py", "__main__.py"):
@@ -535,6 +539,8 @@ class Language(unittest.TestCase):
             faults = Package({"__init__.py": INIT, name: INIT}).look()
             self.assertIn(rule, [found for found, why in faults], name)
         self.assertIn("L14", [found for found, why in Package({"words.py": INIT}).look()])
+        faults = Package({"__init__.py": "words = 1\n", "words.py": INIT}).look()
+        self.assertIn("L16", [found for found, why in faults])
 
 
 if __name__ == "__main__":
