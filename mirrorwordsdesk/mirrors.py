@@ -1,11 +1,7 @@
 """The interface: one list of calls is handed in, one list of answers is given back."""
 
-from mirrorwordsdesk.calls import CALLS, Mirrors, NotTaken, TooLong
-
-
-# The document names more calls than this version answers.
-class NotYetWritten(Exception):
-    pass
+from mirrorwordsdesk.calls import CALLS, NotTaken, TooLong
+from mirrorwordsdesk.words import Mirrors
 
 
 class CallReader:
@@ -30,10 +26,7 @@ class CallReader:
 
 # All of a call is read before anything is looked at: a refusal must not shift where the next begins.
 def answer_next(mirrors, reader):
-    number = reader.number()
-    if number not in CALLS:
-        raise NotYetWritten(f"call {number}")
-    shape = CALLS[number]
+    shape = CALLS[reader.number()]
     numbers = [reader.number() for step in range(shape[0])]
     rows = [reader.row() for step in range(shape[1])]
     try:

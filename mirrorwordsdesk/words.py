@@ -1,70 +1,112 @@
 """Words of mirrors: their forms, and the mirrors they begin and end with.
 
-The document reckons with the root of each mirror, seen in a word's mirrors, the first one first.
-Here only the sum of such a root's numbers is kept. They are never of both signs, so the sum is
-below 0 just if one of them is, and that tells if the mirror in front makes the word shorter.
-A mirror put in front of the word changes the sums by its weights and its own sum alone.
+The document reckons with the root of each mirror, seen in a word's mirrors, the first one first. The numbers
+a + b phi of such a root are never of both signs, and neither are all their a and b: these are the numbers of a
+root of twice as many mirrors, whose weights are whole. So of each root only one sum is kept, of all its a and b.
+It is below 0 just if the mirror in front makes the word shorter. A mirror that is put in front of the word
+changes the sums by its weights, and two words have the same sums just if they are the same.
+
+Where some turn is 5, such a sum is kept of each root times phi, too, behind the others. Once more times phi it is
+both sums together, since phi phi = phi + 1. So no sum is other than a whole number.
 """
 
-from mirrorwordsdesk.golden import below_zero, less_product
-
-OWN_WEIGHT = (2, 0)
+# A mirror's turn with itself, so that its weight stands among the others.
+OWN_TURN = 1
 
 # By the turn: the number p(i, j) of the document, for i below j and for i above j.
-WEIGHT_BELOW = {0: (-2, 0), 2: (0, 0), 3: (-1, 0), 4: (-2, 0), 5: (0, -1), 6: (-3, 0)}
-WEIGHT_ABOVE = {0: (-2, 0), 2: (0, 0), 3: (-1, 0), 4: (-1, 0), 5: (0, -1), 6: (-1, 0)}
+WEIGHT_BELOW = {0: -2, 1: 2, 3: -1, 4: -2, 6: -3}
+WEIGHT_ABOVE = {0: -2, 1: 2, 3: -1, 4: -1, 6: -1}
 
 
-def weights_of(n, turns):
-    weights = [[OWN_WEIGHT] * n for i in range(n)]
+def table_of(n, turns):
+    table = [[OWN_TURN] * n for i in range(n)]
     place = 0
     for i in range(n):
         for j in range(i + 1, n):
-            weights[i][j] = WEIGHT_BELOW[turns[place]]
-            weights[j][i] = WEIGHT_ABOVE[turns[place]]
+            table[i][j] = turns[place]
+            table[j][i] = turns[place]
             place += 1
-    return weights
+    return table
 
 
-def put_in_front(weights, s, sums):
-    own = sums[s]
-    return [less_product(old, p, own) for old, p in zip(sums, weights[s])]
+# What mirror s in front takes away from the sums: from which one, how many times, and which old sum.
+# With turn 2 that is nothing, and with turn 5 it is -phi times the root of s.
+def weights_of(table, s):
+    n = len(table)
+    found = []
+    for t in range(n):
+        turn = table[s][t]
+        if turn == 5:
+            found.extend([(t, -1, n + s), (n + t, -1, s), (n + t, -1, n + s)])
+        elif turn != 2:
+            weight = WEIGHT_BELOW[turn] if s < t else WEIGHT_ABOVE[turn]
+            found.extend([(t, weight, s), (n + t, weight, n + s)])
+    return found
 
 
-def sums_of(weights, word):
-    sums = [(1, 0)] * len(weights)
+class Mirrors:
+    def __init__(self):
+        self.take(1, [])
+
+    def take(self, n, turns):
+        self.many = n
+        self.table = table_of(n, turns)
+        # Without a turn of 5 the sums of roots times phi tell nothing, and take as long again.
+        places = 2 * n if 5 in turns else n
+        self.no_mirrors = (1,) * places
+        self.weights = []
+        for s in range(n):
+            self.weights.append([weight for weight in weights_of(self.table, s) if weight[0] < places])
+
+
+def put_in_front(mirrors, s, sums):
+    changed = list(sums)
+    for place, weight, own in mirrors.weights[s]:
+        changed[place] -= weight * sums[own]
+    return tuple(changed)
+
+
+def word_in_front(mirrors, word, sums):
     for s in reversed(word):
-        sums = put_in_front(weights, s, sums)
+        sums = put_in_front(mirrors, s, sums)
     return sums
 
 
-def least_beginning(sums):
-    for s, number in enumerate(sums):
-        if below_zero(number):
-            return s
-    return None
+def sums_of(mirrors, word):
+    return word_in_front(mirrors, word, mirrors.no_mirrors)
 
 
-# Each mirror that is told is put in front of what is left, which takes it away there.
-def form_of(weights, word):
-    told = []
-    sums = sums_of(weights, word)
-    s = least_beginning(sums)
-    while s is not None:
-        told.append(s)
-        sums = put_in_front(weights, s, sums)
-        s = least_beginning(sums)
-    return told
+def all_of(mirrors):
+    return list(range(mirrors.many))
+
+
+def beginnings_among(members, sums):
+    return [s for s in members if sums[s] < 0]
+
+
+# Put in front of a word that begins with it, a mirror is taken away there.
+def taken_away(mirrors, members, sums):
+    taken = []
+    begins = beginnings_among(members, sums)
+    while begins:
+        taken.append(begins[0])
+        sums = put_in_front(mirrors, begins[0], sums)
+        begins = beginnings_among(members, sums)
+    return taken
+
+
+def form_of(mirrors, word):
+    return taken_away(mirrors, all_of(mirrors), sums_of(mirrors, word))
 
 
 def opposite_of(word):
     return list(reversed(word))
 
 
-def beginnings_of(weights, word):
-    return [s for s, number in enumerate(sums_of(weights, word)) if below_zero(number)]
+def beginnings_of(mirrors, word):
+    return beginnings_among(all_of(mirrors), sums_of(mirrors, word))
 
 
 # Words that are the same stay so in the opposite order, with the same length.
-def endings_of(weights, word):
-    return beginnings_of(weights, opposite_of(word))
+def endings_of(mirrors, word):
+    return beginnings_of(mirrors, opposite_of(word))

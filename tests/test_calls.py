@@ -2,20 +2,14 @@
 
 import unittest
 
-from tests.helper import (TURNS, ask, ask_of, back, begins, by_turns, ends, form, length, line_of_threes,
-                          make, pairs, power, same, times, word)
+from tests.helper import (TURNS, ask, ask_of, back, begins, branched, by_turns, ends, form, length, line_of_threes,
+                          make, one, pairs, power, same, times, word)
 
 REFUSED = [-1]
 TOO_LONG = [-2]
 THREE = (3, [3, 2, 3])
 FREE_THREE = (3, [0, 0, 0])
-# The turns of eight mirrors of which one row of seven has a branch: 0-2-3-4-5-6-7, and 1 beside 3.
-BRANCHED_EIGHT = (8, [3 if pair in ((0, 2), (2, 3), (3, 4), (4, 5), (5, 6), (6, 7), (1, 3)) else 2
-                      for pair in pairs(8)])
-
-
-def one(group, call):
-    return ask_of(group[0], group[1], [call])[0]
+BRANCHED_EIGHT = branched(8)
 
 
 def one_word_calls(w):
