@@ -73,9 +73,15 @@ def longest_of(mirrors, members):
     return word
 
 
+def greatest_turn(table, group):
+    turns = []
+    for s in group:
+        turns.extend([table[s][t] for t in group])
+    return max(turns)
+
+
 def shape_of(table, group, word):
-    greatest = max([max([table[s][t] for t in group]) for s in group])
-    return (len(group), greatest, len([s for s in word if s in group]))
+    return (len(group), greatest_turn(table, group), len([s for s in word if s in group]))
 
 
 # Mirrors of two groups may change places, so each word of the one goes with each of the other.

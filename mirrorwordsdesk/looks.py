@@ -28,7 +28,10 @@ def one_at(place, places):
 def shares_of(mirrors, word):
     places = len(mirrors.no_mirrors)
     columns = [word_in_front(mirrors, word, one_at(place, places)) for place in range(places)]
-    return [[column[place] for column in columns] for place in range(places)]
+    shares = []
+    for place in range(places):
+        shares.append([column[place] for column in columns])
+    return shares
 
 
 def sum_of_products(row, sums):

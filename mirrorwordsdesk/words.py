@@ -13,9 +13,9 @@ both sums together, since phi phi = phi + 1. So no sum is other than a whole num
 # A mirror's turn with itself, so that its weight stands among the others.
 OWN_TURN = 1
 
-# By the turn: the number p(i, j) of the document, for i below j and for i above j.
-WEIGHT_BELOW = {0: -2, 1: 2, 3: -1, 4: -2, 6: -3}
-WEIGHT_ABOVE = {0: -2, 1: 2, 3: -1, 4: -1, 6: -1}
+# By the turn: the number p(i, j) of the document, for i below j and for other i.
+WEIGHT_BELOW = {0: -2, 3: -1, 4: -2, 6: -3}
+WEIGHT_ELSE = {0: -2, 1: 2, 3: -1, 4: -1, 6: -1}
 
 
 def table_of(n, turns):
@@ -39,7 +39,7 @@ def weights_of(table, s):
         if turn == 5:
             found.extend([(t, -1, n + s), (n + t, -1, s), (n + t, -1, n + s)])
         elif turn != 2:
-            weight = WEIGHT_BELOW[turn] if s < t else WEIGHT_ABOVE[turn]
+            weight = WEIGHT_BELOW[turn] if s < t else WEIGHT_ELSE[turn]
             found.extend([(t, weight, s), (n + t, weight, n + s)])
     return found
 
